@@ -37,6 +37,10 @@ func ledger(lines ...impl.Line) impl.Ledger { return impl.Ledger{Lines: lines} }
 
 func isAccount(acct int) bool { return within(acct, 1, lastAccount) }
 
+func allAccounts(list []int) bool {
+	return !slices.ContainsFunc(list, func(acct int) bool { return !isAccount(acct) })
+}
+
 func isCurrency(cur int) bool {
 	_, known := currencyDigits[cur]
 	return known
@@ -1071,10 +1075,59 @@ func TestAccounts(t *testing.T) {
 			}
 		}
 		for _, x := range l.Lines {
-			if !slices.Contains(got, x.Acct) {
-				t.Errorf("Accounts of %s: %d is lacking", shortLedger(l), x.Acct)
+			if slices.Contains(got, x.Acct) != isAccount(x.Acct) {
+				t.Errorf("Accounts of %s: %d is listed: %v", shortLedger(l), x.Acct, !isAccount(x.Acct))
 			}
 		}
+	}
+}
+
+// A line may stand by a number that is no account where the ledger is none: it is not listed, whatever stands beside it.
+func TestAccountsListsAccountsAlone(t *testing.T) {
+	cases := []struct {
+		l    impl.Ledger
+		want []int
+	}{
+		{ledger(line(0, 840, 5)), nil},
+		{ledger(line(1, 840, 5)), []int{1}},
+		{ledger(line(9999, 840, 5)), []int{9999}},
+		{ledger(line(10000, 840, 5)), nil},
+		{ledger(line(-3, 840, 5)), nil},
+		{ledger(line(-3, 840, 5), line(0, 840, -5)), nil},
+		{ledger(line(0, 840, 5), line(1, 840, -5)), []int{1}},
+		{ledger(line(9999, 840, 5), line(10000, 840, -5)), []int{9999}},
+		{ledger(line(-3, 840, 5), line(1, 840, -5), line(9999, 392, 7), line(10000, 392, -7)), []int{1, 9999}},
+		{ledger(line(10000, 840, 5), line(9999, 840, 5), line(0, 840, 5), line(1, 840, 5), line(-3, 840, 5), line(9999, 36, 5), line(0, 36, 5)), []int{1, 9999}},
+	}
+	for _, c := range cases {
+		if got := impl.Accounts(c.l); !slices.Equal(got, c.want) {
+			t.Errorf("Accounts of %s = %v, want %v", shortLedger(c.l), got, c.want)
+		}
+	}
+	for _, acct := range accountInts {
+		for _, cur := range []int{0, 392, 840} {
+			for _, amount := range []int{math.MinInt, -5, 0, 5, math.MaxInt} {
+				var want []int
+				if isAccount(acct) {
+					want = []int{acct}
+				}
+				l := ledger(line(acct, cur, amount))
+				if got := impl.Accounts(l); !slices.Equal(got, want) {
+					t.Errorf("Accounts of %s = %v, want %v", shortLedger(l), got, want)
+				}
+			}
+		}
+	}
+}
+
+// Each number round both ends of the accounts, all in one ledger, the greatest first.
+func TestAccountsByTheNumber(t *testing.T) {
+	var l impl.Ledger
+	for acct := 10003; acct >= -3; acct-- {
+		l.Lines = append(l.Lines, line(acct, 840, 1))
+	}
+	if got := impl.Accounts(l); !slices.Equal(got, daysFrom(1, 1, lastAccount)) {
+		t.Errorf("%d are listed, want 1 .. %d", len(got), lastAccount)
 	}
 }
 
@@ -1174,7 +1227,7 @@ func TestBooksAnswerAnything(t *testing.T) {
 				askPostAll(t, l, []impl.Entry{e, impl.Back(e)})
 				askPost(t, ledger(), e)
 			}
-			if got := impl.Accounts(l); !slices.IsSorted(got) {
+			if got := impl.Accounts(l); !slices.IsSorted(got) || !allAccounts(got) {
 				t.Errorf("Accounts of %s = %v", shortLedger(l), got)
 			}
 		}
