@@ -171,6 +171,65 @@ func TestReasonsComeBackFromTheirTexts(t *testing.T) {
 	}
 }
 
+// codesOfText are the codes that are told as s, asked one by one.
+func codesOfText(s string) []int {
+	var codes []int
+	for code := -1; code <= 10000; code++ {
+		if impl.ReasonText(code) == s {
+			codes = append(codes, code)
+		}
+	}
+	return codes
+}
+
+// withOtherCase is s with the letter at each place, one at a time, in the other case.
+func withOtherCase(s string) []string {
+	var list []string
+	for i := range len(s) {
+		list = append(list, s[:i]+strings.ToUpper(s[i:i+1])+s[i+1:])
+	}
+	return list
+}
+
+// Some answers come from a function and some from the map that is filled once; whichever they are, they must not contradict each other.
+func TestFunctionAndMapSayTheSameOfCodes(t *testing.T) {
+	codes := []int{0, -1}
+	for _, row := range reasonRows {
+		codes = append(codes, row.code-1, row.code, row.code+1)
+	}
+	for _, code := range codes {
+		text, ok := impl.ReasonText(code), impl.ReasonOk(code)
+		if (text != "") != ok || (impl.ReasonDays(code) != -1) != ok {
+			t.Errorf("reason %d: ReasonOk is %v, its text %q and its days %d", code, ok, text, impl.ReasonDays(code))
+		}
+		want := -1
+		if ok {
+			want = code
+		}
+		if got := impl.ReadReason(text); got != want {
+			t.Errorf("reason %d is told as %q, which is read as %d, want %d", code, text, got, want)
+		}
+		askReason(t, code)
+	}
+}
+
+func TestFunctionAndMapSayTheSameOfTexts(t *testing.T) {
+	for _, row := range reasonRows {
+		if told, read := codesOfText(row.text), impl.ReadReason(row.text); read != row.code || !slices.Equal(told, []int{read}) {
+			t.Errorf("%q is read as %d, and %v are told so", row.text, read, told)
+		}
+		for _, s := range withOtherCase(row.text) {
+			if told, read := codesOfText(s), impl.ReadReason(s); read != -1 || len(told) > 0 {
+				t.Errorf("%q is read as %d, and %v are told so", s, read, told)
+			}
+		}
+	}
+	// The empty text is told of all codes but the six, and read as none.
+	if told, read := codesOfText(""), impl.ReadReason(""); read != -1 || len(told) != 10002-len(reasonRows) {
+		t.Errorf("the empty text is read as %d, and told of %d codes", read, len(told))
+	}
+}
+
 func TestReasonsAtAnyCode(t *testing.T) {
 	for code := -10000; code <= 10000; code++ {
 		askReason(t, code)
