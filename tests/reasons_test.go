@@ -666,11 +666,13 @@ func TestReasonsAnswerTheSameSideBySide(t *testing.T) {
 	}
 }
 
-// firstReasonCalls are calls that each must be right where no other has come ahead of it.
-var firstReasonCalls = []struct {
+// A firstCall is a call that must be right where no other has come ahead of it.
+type firstCall struct {
 	name  string
 	right func() bool
-}{
+}
+
+var firstReasonCalls = []firstCall{
 	{"ReasonOk", func() bool { return impl.ReasonOk(4837) }},
 	{"ReasonDays", func() bool { return impl.ReasonDays(4837) == 85 }},
 	{"ReasonPart", func() bool { return impl.ReasonPart(4853) }},
@@ -700,12 +702,13 @@ func rightSideBySide() bool {
 	return !slices.Contains(right, false)
 }
 
-const firstCallName = "FIRST_REASON_CALL"
+const firstCallName = "FIRST_CALL"
 
-// A process of its own is the only place where a call is surely the first one.
-func TestReasonsAtTheFirstCall(t *testing.T) {
+// askFirstCalls asks each call in a process of its own, the only place where it is surely the first one.
+func askFirstCalls(t *testing.T, calls []firstCall) {
+	t.Helper()
 	asked := os.Getenv(firstCallName)
-	for _, call := range firstReasonCalls {
+	for _, call := range calls {
 		if asked == call.name && !call.right() {
 			t.Fatalf("%s is wrong as the first call", call.name)
 		}
@@ -717,11 +720,15 @@ func TestReasonsAtTheFirstCall(t *testing.T) {
 	if err != nil {
 		t.Fatal(err)
 	}
-	for _, call := range firstReasonCalls {
-		child := exec.Command(self, "-test.run=^TestReasonsAtTheFirstCall$")
+	for _, call := range calls {
+		child := exec.Command(self, "-test.run=^"+t.Name()+"$")
 		child.Env = append(os.Environ(), firstCallName+"="+call.name)
 		if out, err := child.CombinedOutput(); err != nil {
 			t.Errorf("%s: %v\n%s", call.name, err, out)
 		}
 	}
+}
+
+func TestReasonsAtTheFirstCall(t *testing.T) {
+	askFirstCalls(t, firstReasonCalls)
 }
