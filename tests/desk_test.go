@@ -723,13 +723,15 @@ func TestWordsOfTheDesk(t *testing.T) {
 	}
 }
 
+// numbersOfWords is how many numbers stand behind each word of the desk.
+var numbersOfWords = map[string]int{"case": 1, "books": 0, "due": 0, "counts": 0, "run": 0, "money": 5, "date": 1, "back": 0}
+
 func TestWordsWithEachCountOfNumbers(t *testing.T) {
 	b := startBook(t).book
-	counts := map[string]int{"case": 1, "books": 0, "due": 0, "counts": 0, "run": 0, "money": 5, "date": 1, "back": 0}
 	for _, word := range deskWords {
 		for n := range 9 {
 			line := word + strings.Repeat(" 1", n)
-			if n == counts[word] {
+			if n == numbersOfWords[word] {
 				if _, told := askDeskLine(t, b, line); strings.HasPrefix(told, "code") {
 					t.Errorf("of %q is told %q", line, told)
 				}
@@ -741,6 +743,81 @@ func TestWordsWithEachCountOfNumbers(t *testing.T) {
 			isNoLine(t, b, line+" x")
 			isNoLine(t, b, strings.Replace(line+" 1", " ", "  ", 1))
 			isNoLine(t, b, word+strings.Repeat(" x", n+1))
+		}
+	}
+}
+
+// A beginning is a script with the book that it leads to.
+type beginning struct {
+	text string
+	book impl.Book
+}
+
+// someBeginnings are cut off ahead of each line of which is told that something is due, and one at the start.
+func someBeginnings(t *testing.T) []beginning {
+	t.Helper()
+	list := []beginning{{"", impl.Book{Today: deskStart}}}
+	for _, x := range []talk{oneCaseTalk, dueTalk} {
+		for n, said := range x {
+			if text := x[:n].text(); said.line == "due" && said.told != "-" {
+				list = append(list, beginning{text, askLineByLine(t, text)})
+			}
+		}
+	}
+	return list
+}
+
+// askBothWays types a line alone, where a function says whose it is, and at the end of a script, where the map that is filled once does; the two must not contradict each other, nor the books behind them.
+func askBothWays(t *testing.T, x beginning, line string) string {
+	t.Helper()
+	lines := []string{line, "counts", "books", "due", "case 0", "run", "counts", "back"}
+	b, told := askDeskLine(t, x.book, line)
+	alone := []string{told}
+	for _, line := range lines[1:] {
+		next, told := impl.DeskLine(b, line)
+		b = next
+		alone = append(alone, told)
+	}
+	all := wholeLines(impl.Desk(x.text + scriptOf(lines...)))
+	if typed := all[len(all)-len(lines):]; !slices.Equal(typed, alone) {
+		t.Errorf("behind %d lines %q and what follows it are told as %q in a script, and alone as %q", len(all)-len(lines), line, typed, alone)
+	}
+	return told
+}
+
+func TestFunctionAndMapSayTheSameOfWords(t *testing.T) {
+	for _, x := range someBeginnings(t) {
+		for _, word := range deskWords {
+			for n := range 7 {
+				for _, number := range []string{" 0", " 1", " 392", " 999999999999999"} {
+					line := word + strings.Repeat(number, n)
+					told := askBothWays(t, x, line)
+					if known := n == numbersOfWords[word]; known == strings.HasPrefix(told, "code ") || !known && told != "code 1" {
+						t.Errorf("of %q is told %q", line, told)
+					}
+				}
+			}
+		}
+		askBothWays(t, x, "money 100 840 392 150 1")
+	}
+}
+
+func TestFunctionAndMapSayTheSameOfNoWords(t *testing.T) {
+	lines := []string{"", " ", "  ", "0", "1 1", "-", "what", "what 0", "what 1 840 392 1 1", "case0", "cases 0", "book", "dues", "count", "runs", "mone 1 840 392 1 1", "dates 0", "backs", "case x", "case -1", "case 00", "books x", "run ", " run", "back back", "\x00", "\xff", "bäck"}
+	for _, word := range deskWords {
+		for n := range 7 {
+			rest := strings.Repeat(" 0", n)
+			lines = append(lines, strings.ToUpper(word)+rest)
+			for _, other := range withOtherCase(word) {
+				lines = append(lines, other+rest)
+			}
+		}
+	}
+	for _, x := range someBeginnings(t) {
+		for _, line := range lines {
+			if told := askBothWays(t, x, line); told != "code 1" {
+				t.Errorf("of %q is told %q, want code 1", line, told)
+			}
 		}
 	}
 }
@@ -1278,12 +1355,13 @@ func TestTheDeskAtTheFirstCall(t *testing.T) {
 		{"SideBySide", rightDesks},
 	}
 	for _, line := range deskLines {
+		b := impl.Book{Today: deskStart}
+		_, want := wantDeskLine(b, line)
 		calls = append(calls, firstCall{line, func() bool {
-			b := impl.Book{Today: deskStart}
-			_, want := wantDeskLine(b, line)
 			_, told := impl.DeskLine(b, line)
 			return told == want
 		}})
+		calls = append(calls, firstCall{"Desk of " + line, func() bool { return impl.Desk(line+"\n") == want+"\n" }})
 	}
 	askFirstCalls(t, calls)
 }
